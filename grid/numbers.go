@@ -20,6 +20,15 @@ func Number(s string) (*big.Rat, api.Errno) {
 	return x, api.OK
 }
 
+// Long: the number of a text that is in form, and may be as long as a number on the way. ErrSize: it has more than MaxLong bytes; ErrForm: it is no number in form.
+func Long(s string) (*big.Rat, api.Errno) {
+	if _, e := exact.Cmp(s, s); e != api.OK { // it takes numbers in form alone
+		return nil, e
+	}
+	x, _ := new(big.Rat).SetString(s)
+	return x, api.OK
+}
+
 // Texts: numbers in form.
 func Texts(l []*big.Rat) []string {
 	told := make([]string, len(l))

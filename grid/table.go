@@ -29,7 +29,7 @@ func (t Table) Reduce() *big.Int {
 		}
 		for r := range t {
 			if r != k {
-				t[r] = cleared(t[r], t[k], k, last)
+				t[r] = Cleared(t[r], t[k], k, last)
 			}
 		}
 		last = t[k][k]
@@ -37,8 +37,8 @@ func (t Table) Reduce() *big.Int {
 	return last
 }
 
-// cleared: a row whose cell k is made 0 by another row; last is what all was multiplied by the time before, and is not needed any more.
-func cleared(row, by []*big.Int, k int, last *big.Int) []*big.Int {
+// Cleared: a row, anew, whose cell k is made 0 by another row; last is what all was multiplied by the time before, and is not needed any more.
+func Cleared(row, by []*big.Int, k int, last *big.Int) []*big.Int {
 	l := make([]*big.Int, len(row))
 	for c := range row {
 		x := new(big.Int).Mul(row[c], by[k])

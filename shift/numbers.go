@@ -4,7 +4,7 @@ import (
 	"math/big"
 
 	"gridworks/api"
-	"gridworks/exact"
+	"gridworks/grid"
 )
 
 // numbers: so many, in form. All sizes are looked at first, since any ErrSize goes ahead of any ErrForm. (Layer 1's own sums won't do for these: what is moved onto the longest flow may be longer than it takes.)
@@ -19,10 +19,11 @@ func numbers(count int, l []string) ([]*big.Rat, api.Errno) {
 	}
 	read := make([]*big.Rat, count)
 	for i, s := range l {
-		if _, e := exact.Cmp(s, s); e != api.OK { // it takes numbers in form alone
+		x, e := grid.Long(s)
+		if e != api.OK {
 			return nil, e
 		}
-		read[i] = number(s)
+		read[i] = x
 	}
 	return read, api.OK
 }
