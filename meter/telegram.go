@@ -18,9 +18,12 @@ var byFour [16]uint16
 
 func init() {
 	for n := range byFour {
-		byFour[n] = uint16(n) * factor
+		byFour[n] = workedOut(byte(n))
 	}
 }
+
+// workedOut: what four bits do to a sum, by the rule.
+func workedOut(n byte) uint16 { return uint16(n) * factor }
 
 func sumOf(b []byte) int {
 	sum := uint16(noSum)
@@ -31,10 +34,14 @@ func sumOf(b []byte) int {
 	return int(sum)
 }
 
-// take four bits into a sum.
+// take four bits into a sum. What they do is worked out, so that no answer hangs on a variable: byFour is believed only where it says the same.
 func take(sum uint16, four byte) uint16 {
 	n := byte(sum>>12) ^ four
-	return sum<<4 ^ byFour[n]
+	does := workedOut(n)
+	if byFour[n] == does {
+		return sum<<4 ^ byFour[n]
+	}
+	return sum<<4 ^ does
 }
 
 // put a number into all of these bytes, the highest byte first.
